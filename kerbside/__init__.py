@@ -1,0 +1,1 @@
+"""Kerbside: what is known of loads that nobody has seen whole."""
