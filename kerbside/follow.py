@@ -1,4 +1,4 @@
-"""What follows from a system: spans, certain and possible conditions, fixed unknowns, spare conditions ([2.7], [2.8])."""
+"""What follows from a system: spans, certain and possible conditions, fixed and spare parts ([2.7], [2.8])."""
 
 from kerbside.errors import Never
 from kerbside.papers import JUST

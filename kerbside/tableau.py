@@ -5,6 +5,11 @@ have the numbers from 0 on, the slacks those behind them. At each time some of t
 are *basic*. A row of the tableau says: divisor * its basic variable = the sum of its entries * the free variables + its
 last entry. So its last entry belongs to the point at which all free variables are 0. All entries are minors of the
 scaled conditions, so the division in `exchanged` leaves no remainder, and they do not grow beyond need.
+
+Many conditions often meet in one point, and then an exchange may move nothing. Therefore the search goes as if each
+unknown might be a little below 0, and each bound of an inequality a little higher: by *nudges* that are smaller than
+any number. The last entry but one is the share of the nudges in the basic variable; it only decides between last
+entries that are equal. Nudges only loosen: where a row clashes in spite of them, it clashes by its last entry.
 """
 
 from math import gcd, lcm
@@ -37,6 +42,27 @@ def exchanged(row, lead, col, divisor):
     return result
 
 
+def nudge_of(numbers, relation, index):
+    """Returns the share of the nudges in the slack of a condition with these integers."""
+    if relation == "=":
+        return sum(number << place for place, number in enumerate(numbers))
+    # This outweighs the nudges of all its unknowns, and seldom is a multiple of what another condition has.
+    return (index + 2) * sum(abs(number) << place for place, number in enumerate(numbers))
+
+
+def order_of(first, second):
+    """Returns -1, 0 or 1, as the first of two amounts is less, equal or greater.
+
+    An amount is a triple: a number, its nudge, and the divisor (above 0) of both.
+    """
+    for place in (0, 1):
+        left = first[place] * second[2]
+        right = second[place] * first[2]
+        if left != right:
+            return -1 if left < right else 1
+    return 0
+
+
 class Tableau:
     """The conditions of a system, written out for some of its variables."""
 
@@ -44,10 +70,12 @@ class Tableau:
         self.width, conditions = system
         self.factors = []
         self.rows = []
-        for row, _, bound in conditions:
+        for index, (row, relation, bound) in enumerate(conditions):
             factor, numbers = whole_numbers((*row, bound))
             self.factors.append(factor)
-            self.rows.append([-number for number in numbers[:-1]] + [numbers[-1]])
+            bound_number = numbers.pop()
+            nudge = nudge_of(numbers, relation, index)
+            self.rows.append([-number for number in numbers] + [nudge, bound_number])
         self.divisor = 1
         self.free = list(range(self.width))
         self.basic = [self.width + index for index in range(len(conditions))]
@@ -86,7 +114,7 @@ class Tableau:
     def meet_bounds(self):
         """Lets all basic variables become at least 0, row by row; notes the first row for which it is impossible."""
         for at in range(len(self.basic)):
-            while self.rows[at][-1] < 0:
+            while self.is_low(at):
                 stop, col = self.best_exchange(at)
                 if col is None:
                     self.clash = at
@@ -101,16 +129,17 @@ class Tableau:
         """
         rising = sorted([(self.free[col], col) for col in self.live if self.rows[goal][col] > 0])
         best = (None, None)
-        most = (-1, 1)
+        most = (-1, 0, 1)
         for _, col in rising:
             stop = self.first_stop(goal, col)
             if stop is None:
                 return None, col
-            gain = abs(self.rows[stop][-1]) * self.rows[goal][col]
-            cost = abs(self.rows[stop][col])
-            if gain * most[1] > most[0] * cost:
+            growth = self.rows[goal][col]
+            last, nudge, cost = self.room(stop, col)
+            gain = (last * growth, nudge * growth, cost)
+            if order_of(gain, most) > 0:
                 best = (stop, col)
-                most = (gain, cost)
+                most = gain
         return best
 
     def first_stop(self, goal, col):
@@ -119,23 +148,30 @@ class Tableau:
         Rows that are still below 0 end nothing, except the goal itself, which need not rise above 0.
         """
         best = None
+        least = None
         for at in range(len(self.basic)):
-            row = self.rows[at]
-            if at == goal or row[col] < 0 <= row[-1]:
-                if best is None or self.is_sooner(at, best, col):
+            if at == goal or (self.rows[at][col] < 0 and not self.is_low(at)):
+                room = self.room(at, col)
+                order = -1 if best is None else order_of(room, least)
+                if order < 0 or (order == 0 and self.basic[at] < self.basic[best]):
                     best = at
+                    least = room
         return best
 
-    def is_sooner(self, first, second, col):
-        """Tells whether the first row stops the variable of the column before the second one does."""
-        left = abs(self.rows[first][-1] * self.rows[second][col])
-        right = abs(self.rows[second][-1] * self.rows[first][col])
-        return left < right or (left == right and self.basic[first] < self.basic[second])
+    def is_low(self, at):
+        """Tells whether the basic variable of the row is below 0."""
+        return self.rows[at][-1] < 0 or (self.rows[at][-1] == 0 and self.rows[at][-2] < 0)
+
+    def room(self, at, col):
+        """Returns the amount by which the free variable of the column grows until the basic one of the row is 0."""
+        row = self.rows[at]
+        sign = -1 if row[col] > 0 else 1
+        return sign * row[-1], sign * row[-2], abs(row[col])
 
     def aim(self, form):
         """Puts the form, scaled to integers, behind the other rows; returns the factor of the scaling."""
         factor, numbers = whole_numbers((*form[0], form[1]))
-        goal = [0] * self.width + [numbers[-1] * self.divisor]
+        goal = [0] * (self.width + 1) + [numbers[-1] * self.divisor]
         for col, name in enumerate(self.free):
             if name < self.width:
                 goal[col] = numbers[name] * self.divisor

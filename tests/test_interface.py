@@ -1,0 +1,55 @@
+"""The names of the interface, with their arguments, in the files under which it lists them."""
+
+import ast
+import unittest
+from importlib import import_module
+from pathlib import Path
+
+PACKAGE = Path(__file__).resolve().parent.parent / "kerbside"
+FUNCTIONS = {
+    "ratios": {"ratio": "n d", "is_ratio": "pair", "of_int": "n", "plus": "first second", "minus": "first second",
+               "times": "first second", "over": "first second", "negated": "first", "compare": "first second",
+               "sign_of": "first", "floor_of": "first", "ratio_text": "first", "read_ratio": "text"},
+    "rows": {"check_row": "row", "zero_row": "width", "unit_row": "width index", "add_rows": "first second",
+             "product": "first second", "scale_row": "factor row", "row_of_ints": "numbers", "value_at": "form row",
+             "add_forms": "first second", "scale_form": "factor form"},
+    "papers": {"check_system": "system", "keeps": "condition row", "is_history": "system row",
+               "mixture": "system multipliers", "check_paper": "system form paper"},
+    "solve": {"greatest": "system form"},
+    "follow": {"history_of": "system", "span": "system form", "certain": "system condition",
+               "fixed_values": "system", "possible": "system condition", "spare_conditions": "system",
+               "slim": "system"},
+    "scales": {"check_paper": "paper", "check_drawer": "drawer", "is_scale": "text",
+               "recalled": "drawer index day", "counting": "drawer scale day", "drawer_of": "papers recalls"},
+}
+CONSTANTS = {"ratios": {"MAX_TEXT": 60}, "rows": {"MAX_WIDTH": 24}, "papers": {"MAX_CONDITIONS": 40},
+             "scales": {"MAX_DAY": 999, "MAX_PAPERS": 12}}
+CLASSES = {"errors": ("KerbError", "NotAllowed", "BadForm", "BadPaper", "Missing", "Never", "Endless", "Full")}
+
+
+def parsed(module):
+    return ast.parse((PACKAGE / f"{module}.py").read_text(encoding="ascii"))
+
+
+class InterfaceTest(unittest.TestCase):
+    def test_functions(self):
+        for module, functions in FUNCTIONS.items():
+            defined = {node.name: [part.arg for part in node.args.args] for node in parsed(module).body
+                       if isinstance(node, ast.FunctionDef)}
+            for name, arguments in functions.items():
+                self.assertEqual(defined.get(name), arguments.split(), (module, name))
+
+    def test_classes(self):
+        for module, names in CLASSES.items():
+            defined = [node.name for node in parsed(module).body if isinstance(node, ast.ClassDef)]
+            for name in names:
+                self.assertIn(name, defined)
+
+    def test_constants(self):
+        for module, constants in CONSTANTS.items():
+            for name, number in constants.items():
+                self.assertEqual(getattr(import_module(f"kerbside.{module}"), name), number)
+
+
+if __name__ == "__main__":
+    unittest.main()
