@@ -24,7 +24,11 @@ def history_of(system):
 
 def span(system, form):
     """Returns the least and the greatest value of the form, None for an end that there is not."""
-    tableau = tableau_of(system)
+    return span_in(tableau_of(system), form)
+
+
+def span_in(tableau, form):
+    """Returns the span of the form in a system by its tableau; one tableau does for the spans of many forms."""
     most = tableau.highest(form)
     turned = tableau.highest(scale_form(MINUS_ONE, form))
     if turned is None:

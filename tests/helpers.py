@@ -167,3 +167,107 @@ def random_system(source, width, many, equations=0.2):
 
 def random_form(source, width):
     return (random_row(source, width), random_ratio(source))
+
+
+def drawn_paper(source, first=0, last=999):
+    """Returns a paper of a scale that holds on the days from first to last."""
+    zero, share, drift = (pair_of(source.choice(numbers)) for numbers in (
+        (0, 0, Fraction(1, 3), 1, 4), (0, 0, Fraction(1, 10), Fraction(1, 2), Fraction(5, 7)),
+        (0, 0, Fraction(1, 4), Fraction(2, 3), 2)))
+    return (first, last, zero, share, drift, source.randint(max(0, first - 3), first))
+
+
+def does_count(entry, scale, day):
+    """Tells by the definition [3.2] whether an entry counts."""
+    name, (first, last, *_), until = entry
+    return name == scale and day in range(first, last + 1) and not (until is not None and until <= day)
+
+
+def errors_of(drawer, scale, day):
+    """Returns the slacks and the shares of the entries that count, as fractions."""
+    found = []
+    for entry in drawer:
+        if does_count(entry, scale, day):
+            _, _, zero, share, drift, checked = entry[1]
+            found.append((fraction(zero) + fraction(drift) * (day - checked), fraction(share)))
+    return found
+
+
+def plain_ends(drawer, scale, day, reading):
+    """Returns the ends of [3.4] as fractions; there may be nothing between them."""
+    errors = errors_of(drawer, scale, day)
+    lows = [(fraction(reading) - slack) / (1 + share) for slack, share in errors]
+    highs = [(fraction(reading) + slack) / (1 - share) for slack, share in errors]
+    return max(lows + [Fraction(0)]), min(highs) if highs else None
+
+
+def sources_of(yard):
+    """Returns for each lot its household (or None) and its sources, by the definition [4.1]."""
+    found = []
+    for word, *rest in yard[1]:
+        if word == "bring":
+            found.append((rest[0], []))
+        elif word == "pour":
+            found.append((None, list(rest[0])))
+        else:
+            found += [(None, [rest[0]]) for _ in range(rest[1])]
+    return found
+
+
+def random_yard(source, households, most_deeds, fewest_deeds=0):
+    """Returns a yard with up to so many deeds, of up to 8 lots."""
+    room = min(8, 24 // households)
+    deeds, there, made = [], [], 0
+    for _ in range(source.randint(fewest_deeds, most_deeds)):
+        words = ["bring"] * (made < room) + ["pour"] * (2 * (made < room and len(there) > 1))
+        words += ["part"] * (2 * (made + 1 < room and there != []))
+        if not words:
+            break
+        word, new = source.choice(words), 1
+        if word == "bring":
+            deeds.append(("bring", source.randrange(households)))
+        elif word == "pour":
+            lots = source.sample(there, source.randint(2, len(there)))
+            deeds.append(("pour", tuple(lots)))
+            there = [lot for lot in there if lot not in lots]
+        else:
+            lot, new = source.choice(there), source.randint(2, min(3, room - made))
+            deeds.append(("part", lot, new))
+            there.remove(lot)
+        there += range(made, made + new)
+        made += new
+    return (households, tuple(deeds))
+
+
+def random_amounts(source, total, many):
+    """Returns so many fractions, not below 0, with this sum."""
+    cuts = sorted(total * Fraction(source.randint(0, 4), 4) for _ in range(many - 1))
+    return [right - left for left, right in zip([Fraction(0)] + cuts, cuts + [total])]
+
+
+def made_history(source, yard):
+    """Returns contents, as fractions, that come of doing the deeds."""
+    households, deeds = yard
+    contents = []
+    for word, *rest in deeds:
+        if word == "bring":
+            contents.append([Fraction(source.randint(0, 9), source.randint(1, 3)) if household == rest[0] else
+                             Fraction(0) for household in range(households)])
+        elif word == "pour":
+            contents.append([sum((contents[lot][household] for lot in rest[0]), Fraction(0))
+                             for household in range(households)])
+        else:
+            spread = [random_amounts(source, contents[rest[0]][household], rest[1]) for household in range(households)]
+            contents += [[amounts[part] for amounts in spread] for part in range(rest[1])]
+    return [amount for content in contents for amount in content]
+
+
+def kept_evidence(source, width, history, many, equations=0.3):
+    """Returns a list of conditions that the history keeps."""
+    evidence = []
+    for _ in range(many):
+        row = tuple(pair_of(source.choice((0, 0, 0, 1, 1, 2, -1, Fraction(1, 2)))) for _ in range(width))
+        is_equation = source.random() < equations
+        room = 0 if is_equation else Fraction(source.randint(0, 4), 2)
+        evidence.append((row, "=" if is_equation else "<=", pair_of(dot(fractions(row), history) + room)))
+    return evidence

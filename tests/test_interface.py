@@ -21,9 +21,17 @@ FUNCTIONS = {
                "slim": "system"},
     "scales": {"check_paper": "paper", "check_drawer": "drawer", "is_scale": "text",
                "recalled": "drawer index day", "counting": "drawer scale day", "drawer_of": "papers recalls"},
+    "weighings": {"ends": "drawer scale day reading", "readings": "drawer scale day weight",
+                  "allows": "drawer scale day reading weight", "check_weighing": "weighing",
+                  "weighing_conditions": "drawer weighing places width"},
+    "yards": {"check_yard": "yard", "lots_of": "yard", "present": "yard", "width_of": "yard",
+              "unknown": "yard lot household", "yard_conditions": "yard", "reaches": "yard lot", "yard_text": "yard",
+              "read_yard": "text"},
+    "questions": {"form_of": "yard terms", "system_of": "yard evidence", "answer_of": "yard evidence question",
+                  "check_answer": "yard evidence question answer"},
 }
 CONSTANTS = {"ratios": {"MAX_TEXT": 60}, "rows": {"MAX_WIDTH": 24}, "papers": {"MAX_CONDITIONS": 40},
-             "scales": {"MAX_DAY": 999, "MAX_PAPERS": 12}}
+             "scales": {"MAX_DAY": 999, "MAX_PAPERS": 12}, "yards": {"MAX_HOUSEHOLDS": 4, "MAX_LOTS": 8}}
 CLASSES = {"errors": ("KerbError", "NotAllowed", "BadForm", "BadPaper", "Missing", "Never", "Endless", "Full")}
 
 
