@@ -5,7 +5,7 @@ from kerbside.papers import MAX_CONDITIONS, are_ratios, check_condition, check_p
 from kerbside.ratios import ONE, ZERO, compare, is_ratio, minus, negated, over, plus, sign_of
 from kerbside.rows import add_rows, product, scale_form, scale_row, value_at
 from kerbside.solve import greatest
-from kerbside.yards import check_lot, unknown, width_of, yard_conditions
+from kerbside.yards import unknown, width_of, yard_conditions
 
 BELOW = "below"
 ABOVE = "above"
@@ -27,7 +27,6 @@ def unknowns_of(yard, lot, household):
     """Returns the list of the unknowns that a term names: one, or for None those of all households."""
     if household is not None:
         return [unknown(yard, lot, household)]
-    check_lot(yard, lot)
     return [unknown(yard, lot, each) for each in range(yard[0])]
 
 

@@ -214,10 +214,11 @@ def sources_of(yard):
     return found
 
 
-def random_yard(source, households, most_deeds, fewest_deeds=0):
-    """Returns a yard with up to so many deeds, of up to 8 lots."""
+def random_yard(source, households, most_deeds, fewest_deeds=0, bringers=()):
+    """Returns a yard of up to 8 lots: with lots of the bringers, then with up to so many deeds."""
     room = min(8, 24 // households)
-    deeds, there, made = [], [], 0
+    deeds = [("bring", household) for household in bringers]
+    there, made = list(range(len(deeds))), len(deeds)
     for _ in range(source.randint(fewest_deeds, most_deeds)):
         words = ["bring"] * (made < room) + ["pour"] * (2 * (made < room and len(there) > 1))
         words += ["part"] * (2 * (made + 1 < room and there != []))
@@ -271,3 +272,72 @@ def kept_evidence(source, width, history, many, equations=0.3):
         room = 0 if is_equation else Fraction(source.randint(0, 4), 2)
         evidence.append((row, "=" if is_equation else "<=", pair_of(dot(fractions(row), history) + room)))
     return evidence
+
+
+def is_kept(relation, number, bound):
+    """Tells whether a number is in the relation to the bound."""
+    return {"<=": number <= bound, ">=": number >= bound, "=": number == bound}[relation]
+
+
+def point_within(system, form, paper, limit, strictly=False):
+    """Tells whether a paper is a point whose value is not greater than the limit, or less."""
+    if paper[0] != "point" or not is_right(system, form, paper):
+        return False
+    return fraction(paper[1]) < limit or (not strictly and fraction(paper[1]) == limit)
+
+
+def is_right_answer(system, form, relation, bound, answer):
+    """Tells whether an answer is right by the definition [5.4]."""
+    word, *parts = answer
+    bound = fraction(bound)
+    if word == "never":
+        return parts[0][0] == "never" and is_right(system, form, parts[0])
+    if word == "certain":
+        wanted = {"<=": [(form, bound)], ">=": [(turned(form), -bound)],
+                  "=": [(form, bound), (turned(form), -bound)]}[relation]
+        return len(parts[0]) == len(wanted) and all(point_within(system, each, paper, limit)
+                                                    for (each, limit), paper in zip(wanted, parts[0]))
+    if word == "impossible":
+        side, paper = parts
+        if side not in {"<=": ("above",), ">=": ("below",), "=": ("above", "below")}[relation]:
+            return False
+        if side == "above":
+            return point_within(system, turned(form), paper, -bound, True)
+        return point_within(system, form, paper, bound, True)
+    if word != "open":
+        return False
+    histories = [fractions(part) for part in parts if is_exact_row(part, system[0])]
+    if len(histories) != 2 or not all(keeps_all(system[1], history) for history in histories):
+        return False
+    keeping, other = (dot(fractions(form[0]), history) for history in histories)
+    return is_kept(relation, keeping, bound) and not is_kept(relation, other, bound)
+
+
+def ways_of(yard, household):
+    """Returns all ways of a household, in ascending order, each judged by the definition [6.1]."""
+    lots = sources_of(yard)
+    used = [source for _, sources in lots for source in sources]
+    found = []
+    for many in range(1, len(lots) + 1):
+        for way in combinations(range(len(lots)), many):
+            follows = all(lot in lots[further][1] for lot, further in zip(way, way[1:]))
+            if follows and lots[way[0]][0] == household and way[-1] not in used:
+                found.append(list(way))
+    return sorted(found)
+
+
+def plain_open(yard, finds, household):
+    """Returns the ways of a household on which no lot was searched and had none."""
+    bare = [lot for lot, has in finds if not has]
+    return [way for way in ways_of(yard, household) if not set(way) & set(bare)]
+
+
+def random_finds(source, yard, truthful=True):
+    """Returns finds of some lots: those of things that went some ways, or any answers."""
+    every = [way for household in range(yard[0]) for way in ways_of(yard, household)]
+    held = {lot for way in source.sample(every, source.randint(0, min(3, len(every)))) for lot in way}
+    chance, found = source.choice((0.2, 0.5, 0.8)), []
+    for lot in range(len(sources_of(yard))):
+        if source.random() < chance:
+            found.append((lot, lot in held if truthful else source.random() < 0.5))
+    return tuple(found)

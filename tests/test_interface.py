@@ -29,6 +29,13 @@ FUNCTIONS = {
               "read_yard": "text"},
     "questions": {"form_of": "yard terms", "system_of": "yard evidence", "answer_of": "yard evidence question",
                   "check_answer": "yard evidence question answer"},
+    "tables": {"content_spans": "yard evidence", "weight_spans": "yard evidence", "certain_weights": "yard evidence"},
+    "finds": {"check_finds": "yard finds", "ways": "yard household", "open_ways": "yard finds household",
+              "with_find": "yard finds lot has"},
+    "sources": {"explanations": "yard finds", "fewest": "yard finds", "least_ones": "yard finds",
+                "can_be": "yard finds", "must_be": "yard finds", "cannot_be": "yard finds",
+                "best_search": "yard finds"},
+    "reasons": {"reason": "yard finds household", "check_reason": "yard finds household paper"},
 }
 CONSTANTS = {"ratios": {"MAX_TEXT": 60}, "rows": {"MAX_WIDTH": 24}, "papers": {"MAX_CONDITIONS": 40},
              "scales": {"MAX_DAY": 999, "MAX_PAPERS": 12}, "yards": {"MAX_HOUSEHOLDS": 4, "MAX_LOTS": 8}}

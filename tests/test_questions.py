@@ -10,8 +10,8 @@ from kerbside.questions import answer_of, check_answer, system_of
 from kerbside.rows import value_at
 from kerbside.yards import read_yard, yard_conditions
 
-from helpers import (condition_of, dot, fraction, fractions, is_exact_row, is_right, keeps_all, kept_evidence,
-                     made_history, pair_of, random_yard, row_of, sources_of, turned)
+from helpers import (condition_of, dot, fraction, fractions, is_exact_row, is_right_answer, kept_evidence,
+                     made_history, pair_of, random_yard, row_of, sources_of)
 
 RELATIONS = ("<=", ">=", "=")
 LITTLE = Fraction(1, 10 ** 30)
@@ -21,44 +21,6 @@ FIRST = (((1, 1), (1, 1), (0, 1), (0, 1), (0, 1), (0, 1)), "<=", (4, 1))
 EVIDENCE = [TOTAL, FIRST]
 SECOND = [(1, None, (1, 1))]
 NO_LOTS = (2, ())
-
-
-def is_kept(relation, number, bound):
-    return {"<=": number <= bound, ">=": number >= bound, "=": number == bound}[relation]
-
-
-def point_within(system, form, paper, limit, strictly=False):
-    """Tells whether a paper is a point whose value is not greater than the limit, or less."""
-    if paper[0] != "point" or not is_right(system, form, paper):
-        return False
-    return fraction(paper[1]) < limit or (not strictly and fraction(paper[1]) == limit)
-
-
-def is_right_answer(system, form, relation, bound, answer):
-    """Tells whether an answer is right by the definition [5.4]."""
-    word, *parts = answer
-    bound = fraction(bound)
-    if word == "never":
-        return parts[0][0] == "never" and is_right(system, form, parts[0])
-    if word == "certain":
-        wanted = {"<=": [(form, bound)], ">=": [(turned(form), -bound)],
-                  "=": [(form, bound), (turned(form), -bound)]}[relation]
-        return len(parts[0]) == len(wanted) and all(point_within(system, each, paper, limit)
-                                                    for (each, limit), paper in zip(wanted, parts[0]))
-    if word == "impossible":
-        side, paper = parts
-        if side not in {"<=": ("above",), ">=": ("below",), "=": ("above", "below")}[relation]:
-            return False
-        if side == "above":
-            return point_within(system, turned(form), paper, -bound, True)
-        return point_within(system, form, paper, bound, True)
-    if word != "open":
-        return False
-    histories = [fractions(part) for part in parts if is_exact_row(part, system[0])]
-    if len(histories) != 2 or not all(keeps_all(system[1], history) for history in histories):
-        return False
-    keeping, other = (dot(fractions(form[0]), history) for history in histories)
-    return is_kept(relation, keeping, bound) and not is_kept(relation, other, bound)
 
 
 def word_of(relation, ends, bound):
@@ -226,6 +188,18 @@ class AnswerTest(Asking):
                 answer = answer_of(yard, [], (terms, relation, bound))
                 self.assertEqual(answer[0], "open")
                 self.assertTrue(is_right_answer(system, form, relation, bound, answer), answer)
+
+    def test_sums_without_ends_that_begin_far_from_the_bound(self):
+        yard = read_yard("2: +0 +1")
+        evidence = [condition_of([0, 0, 0, -1], "<=", -100), condition_of([-1, 0, 0, 0], "<=", -7)]
+        for signs in ((1, -1), (-1, 1), (3, Fraction(-1, 2)), (Fraction(-1, 3), 2)):
+            terms = [(lot, None, pair_of(sign)) for lot, sign in enumerate(signs)]
+            system, form = system_of(yard, evidence), questions.form_of(yard, terms)
+            for relation in RELATIONS:
+                for bound in range(-260, 261, 20):
+                    answer = answer_of(yard, evidence, (terms, relation, (bound, 1)))
+                    self.assertEqual(answer[0], "open")
+                    self.assertTrue(is_right_answer(system, form, relation, (bound, 1), answer), answer)
 
     def test_errors_in_order(self):
         wrong_evidence = [(FIRST[0], "<", (4, 1))]

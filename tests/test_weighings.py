@@ -110,6 +110,13 @@ class EndsTest(Weighing):
             drawer, reading = self.drawer() + (strict,), self.amount()
             self.assertEqual(ends(drawer, "a", self.source.randint(0, 9), reading), (reading, reading))
 
+    def test_nothing_is_left(self):
+        # No drawer comes to this, as no slack of a paper is below 0; so here is one that no paper has.
+        drawer = (("a", (0, 9, (-1, 1), (0, 1), (0, 1), 0), None),)
+        for entries in (drawer, drawer + (("a", PAPER, None),), (("a", PAPER, None),) + drawer):
+            with self.assertRaises(Never):
+                ends(entries, "a", 5, (4, 1))
+
     def test_below_zero_is_nothing(self):
         paper = (0, 9, (5, 1), (1, 3), (0, 1), 0)
         self.assertEqual(ends((("a", paper, None),), "a", 0, (4, 1)), ((0, 1), (27, 2)))
