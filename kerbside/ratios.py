@@ -104,6 +104,13 @@ def are_digits(text):
     return text != "" and all(letter in DIGITS for letter in text)
 
 
+def read_number(text, most):
+    """Returns the integer of a text of decimal digits, at most so many, without needless zeros."""
+    if not are_digits(text) or len(text) > most or (text[0] == "0" and len(text) > 1):
+        raise BadForm("a number from 0 on has decimal digits, not too many, and no needless zeros")
+    return int(text)
+
+
 def read_ratio(text):
     """Returns the ratio of the text."""
     if len(text) > MAX_TEXT:

@@ -2,7 +2,7 @@
 
 from kerbside.errors import BadForm, Missing, NotAllowed
 from kerbside.papers import JUST
-from kerbside.ratios import DIGITS, ONE, ZERO, negated
+from kerbside.ratios import ONE, ZERO, negated, read_number
 from kerbside.rows import MAX_WIDTH
 
 MAX_HOUSEHOLDS = 4
@@ -12,6 +12,8 @@ POUR = "pour"
 PART = "part"
 LENGTHS = {"bring": 2, "pour": 2, "part": 3}
 PARTS = (2, 3)
+# All numbers in the text of a yard are so small.
+MAX_DIGITS = 1
 
 
 def check_yard(yard):
@@ -160,7 +162,7 @@ def deed_text(deed):
 def read_yard(text):
     """Returns the yard of the text."""
     words = text.split(" ")
-    yard = (read_digit(words[0].removesuffix(":")), tuple([read_deed(word) for word in words[1:]]))
+    yard = (read_number(words[0].removesuffix(":"), MAX_DIGITS), tuple([read_deed(word) for word in words[1:]]))
     try:
         check_yard(yard)
     except NotAllowed as e:
@@ -175,17 +177,10 @@ def read_deed(word):
     """Returns the deed of a word, which need not be possible."""
     mark, rest = word[:1], word[1:]
     if mark == "+":
-        return BRING, read_digit(rest)
+        return BRING, read_number(rest, MAX_DIGITS)
     if mark == "P":
-        return POUR, tuple([read_digit(lot) for lot in rest.split(",")])
+        return POUR, tuple([read_number(lot, MAX_DIGITS) for lot in rest.split(",")])
     if mark == "D":
         lot, _, many = rest.partition("/")
-        return PART, read_digit(lot), read_digit(many)
+        return PART, read_number(lot, MAX_DIGITS), read_number(many, MAX_DIGITS)
     raise BadForm("the text of a deed begins with +, P or D")
-
-
-def read_digit(text):
-    """Returns the number of a text of one digit; all numbers in yards are so small."""
-    if len(text) != 1 or text not in DIGITS:
-        raise BadForm("the numbers in the text of a yard have one digit")
-    return int(text)

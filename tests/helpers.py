@@ -1,5 +1,7 @@
 """What several tests share: numbers, systems, and a judgement of papers that does not use the program."""
 
+import math
+import re
 from fractions import Fraction
 from itertools import combinations
 
@@ -341,3 +343,110 @@ def random_finds(source, yard, truthful=True):
         if source.random() < chance:
             found.append((lot, lot in held if truthful else source.random() < 0.5))
     return tuple(found)
+
+
+def words_of_ratio(pair):
+    """Returns the text of a ratio by the definition [1.3]."""
+    return str(pair[0]) if pair[1] == 1 else f"{pair[0]}/{pair[1]}"
+
+
+def text_of(entry):
+    """Returns the text of an entry by the definition [7.2]."""
+    words = []
+    for part in entry:
+        if isinstance(part, bool):
+            words.append("yes" if part else "no")
+        elif isinstance(part, (int, str)):
+            words.append(str(part))
+        elif len(part) == 6:
+            words += [words_of_ratio(each) if isinstance(each, tuple) else str(each) for each in part]
+        else:
+            words.append(part)
+    for at, kind in ((3, "weighing"), (1, "known")):
+        if entry[0] == kind:
+            words[at:] = [",".join(map(str, entry[at])), words_of_ratio(entry[at + 1])]
+    return " ".join(words)
+
+
+NUMBER = re.compile("0|[1-9][0-9]{0,2}")
+RATIO = re.compile("(0|[1-9][0-9]*)(?:/([1-9][0-9]*))?")
+
+
+def ratio_in(word):
+    """Returns the ratio, not below 0, that a word is the text of, None if it is not the text of one."""
+    found = RATIO.fullmatch(word)
+    if found is None or len(word) > 60:
+        return None
+    n, d = int(found[1]), int(found[2] or 1)
+    return (n, d) if math.gcd(n, d) == 1 and (found[2] is None or d > 1) else None
+
+
+def number_in(word, most):
+    """Returns the integer from 0 to most that a word tells, otherwise None."""
+    return int(word) if NUMBER.fullmatch(word) and int(word) <= most else None
+
+
+def lots_in(word):
+    lots = [number_in(lot, 99) for lot in word.split(",")]
+    if None in lots or len(lots) > 8 or any(left >= right for left, right in zip(lots, lots[1:])):
+        return None
+    return tuple(lots)
+
+
+def paper_in(words):
+    first, last, checked = (number_in(words[at], 999) for at in (0, 1, 5))
+    zero, share, drift = (ratio_in(word) for word in words[2:5])
+    if None in (first, last, checked, zero, share, drift) or not checked <= first <= last or share[0] >= share[1]:
+        return None
+    return (first, last, zero, share, drift, checked)
+
+
+def entry_in(text):
+    """Returns the entry that a text is the text of by [7.1] and [7.2], None if it is not the text of one."""
+    kind, *words = text.split(" ")
+    scale = words[0] if words and re.fullmatch("[a-z]{1,4}", words[0]) else None
+    parts = [None]
+    if kind == "paper" and len(words) == 7:
+        parts = [scale, paper_in(words[1:])]
+    elif kind == "recall" and len(words) == 8:
+        parts = [scale, paper_in(words[1:7]), number_in(words[7], 999)]
+    elif kind == "weighing" and len(words) == 4:
+        parts = [scale, number_in(words[1], 999), lots_in(words[2]), ratio_in(words[3])]
+    elif kind == "known" and len(words) == 2:
+        parts = [lots_in(words[0]), ratio_in(words[1])]
+    elif kind == "find" and len(words) == 2:
+        parts = [number_in(words[0], 99), {"yes": True, "no": False}.get(words[1])]
+    return None if None in parts else (kind, *parts)
+
+
+def drawn_lots(source, many):
+    """Returns ascending lots, all less than a number."""
+    return tuple(sorted(source.sample(range(many), source.randint(1, min(many, 8)))))
+
+
+def random_entry(source, kind=None, lots=100):
+    """Returns an entry of the kind, or of any kind, that names lots less than a number."""
+    kind = kind or source.choice(("find", "known", "paper", "recall", "weighing"))
+    scale = "".join(source.choice("abz") for _ in range(source.choice((1, 1, 2, 4))))
+    amount = pair_of(Fraction(source.randint(0, 30), source.choice((1, 1, 2, 7))))
+    first = source.choice((0, 3, 12, 500))
+    paper = drawn_paper(source, first, source.choice((first, first + 1, 999)))
+    return {"find": ("find", source.randrange(lots), source.random() < 0.5),
+            "known": ("known", drawn_lots(source, lots), amount),
+            "paper": ("paper", scale, paper),
+            "recall": ("recall", scale, paper, source.choice((0, 7, 999))),
+            "weighing": ("weighing", scale, source.choice((0, 12, 999)), drawn_lots(source, lots), amount)}[kind]
+
+
+def least_value(system, form):
+    """Returns the least value of a form over all histories of a small system, or "never" or "endless"."""
+    points = corners(system)
+    if not points:
+        return "never"
+    width, conditions = system
+    # If values have no lower end, they fall along an edge of the histories that goes on for ever.
+    flat = tuple((row, relation, (0, 1)) for row, relation, _ in conditions)
+    edges = corners((width, flat + ((((1, 1),) * width, "=", (1, 1)),)))
+    if any(dot(fractions(form[0]), edge) < 0 for edge in edges):
+        return "endless"
+    return min(dot(fractions(form[0]), point) for point in points) + fraction(form[1])

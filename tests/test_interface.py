@@ -36,10 +36,28 @@ FUNCTIONS = {
                 "can_be": "yard finds", "must_be": "yard finds", "cannot_be": "yard finds",
                 "best_search": "yard finds"},
     "reasons": {"reason": "yard finds household", "check_reason": "yard finds household paper"},
+    "entries": {"check_entry": "entry", "entry_text": "entry", "read_entry": "text"},
+    "book": {"load_book": "text"},
+    "bills": {"amount_of": "price weight", "bill_of": "system form price", "check_bill": "system form bill"},
+    "accounts": {"load_accounts": "text"},
+    "evidence": {"conditions_of": "yard book", "finds_of": "yard book"},
+    "lines": {"read_command": "line"},
+    "desk": {"run_script": "script"},
+}
+METHODS = {
+    ("book", "Book"): {"__init__": "", "add": "entry", "correct": "number entry", "withdraw": "number",
+                       "restore": "number", "size": "", "standing": "", "stands": "number", "versions": "number",
+                       "evidence": "", "of_kind": "kind", "image": ""},
+    ("accounts", "Accounts"): {"__init__": "prices", "price": "household", "set_price": "household price",
+                               "settle": "weights", "balance": "household", "notes": "", "image": ""},
 }
 CONSTANTS = {"ratios": {"MAX_TEXT": 60}, "rows": {"MAX_WIDTH": 24}, "papers": {"MAX_CONDITIONS": 40},
-             "scales": {"MAX_DAY": 999, "MAX_PAPERS": 12}, "yards": {"MAX_HOUSEHOLDS": 4, "MAX_LOTS": 8}}
-CLASSES = {"errors": ("KerbError", "NotAllowed", "BadForm", "BadPaper", "Missing", "Never", "Endless", "Full")}
+             "scales": {"MAX_DAY": 999, "MAX_PAPERS": 12}, "yards": {"MAX_HOUSEHOLDS": 4, "MAX_LOTS": 8},
+             "entries": {"KINDS": ("find", "known", "paper", "recall", "weighing")},
+             "book": {"MAX_RECORDS": 30, "MAX_VERSIONS": 6}, "bills": {"MAX_PRICE": 999},
+             "accounts": {"HOUSEHOLDS": 4, "MAX_NOTES": 200}}
+CLASSES = {"errors": ("KerbError", "NotAllowed", "BadForm", "BadPaper", "Missing", "Never", "Endless", "Full"),
+           "book": ("Book",), "accounts": ("Accounts",)}
 
 
 def parsed(module):
@@ -60,10 +78,19 @@ class InterfaceTest(unittest.TestCase):
             for name in names:
                 self.assertIn(name, defined)
 
+    def test_methods(self):
+        for (module, name), methods in METHODS.items():
+            body = next(node.body for node in parsed(module).body if isinstance(node, ast.ClassDef)
+                        and node.name == name)
+            defined = {node.name: [part.arg for part in node.args.args] for node in body
+                       if isinstance(node, ast.FunctionDef)}
+            for method, arguments in methods.items():
+                self.assertEqual(defined.get(method), ["self"] + arguments.split(), (name, method))
+
     def test_constants(self):
         for module, constants in CONSTANTS.items():
-            for name, number in constants.items():
-                self.assertEqual(getattr(import_module(f"kerbside.{module}"), name), number)
+            for name, worth in constants.items():
+                self.assertEqual(getattr(import_module(f"kerbside.{module}"), name), worth)
 
 
 if __name__ == "__main__":

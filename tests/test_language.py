@@ -22,8 +22,8 @@ METHODS = set("""append clear copy count endswith extend find get index insert i
 BARRED_WORDS = set("""type typing enum namedtuple dataclass overload contextmanager Generic Protocol ABC register mro
     elements open input law version_info eval exec exit compile globals locals vars dir help id""".split())
 STATEMENTS = (ast.Assign, ast.AugAssign, ast.If, ast.While, ast.For, ast.Return, ast.Break, ast.Continue, ast.Pass,
-              ast.Raise, ast.Assert, ast.Delete, ast.Try, ast.Expr, ast.FunctionDef, ast.ClassDef, ast.ImportFrom)
-
+              ast.Raise, ast.Assert, ast.Delete, ast.Try, ast.Expr, ast.FunctionDef, ast.ClassDef, ast.ImportFrom,
+              ast.Match)
 
 
 class FileTest(unittest.TestCase):
